@@ -4,7 +4,6 @@ from standrows.group import APART
 from standrows.group import Group
 from standrows.group import NEAR
 from standrows.group import count_moved
-from standrows.group import fewest_moved
 
 NONE_SUCH = -2
 NOT_PLACED = -6
@@ -15,6 +14,8 @@ SO_ALREADY = -17
 OUT_OF_RANGE = -22
 TOO_MANY = -28
 NO_ORDER = -33
+NOBODY_IN_FRONT = -33
+NO_GOOD_PLACE = -33
 
 MOST_PEOPLE = 20
 BEGIN = 0
@@ -69,15 +70,15 @@ def person(group, given):
 
 def put(group, given):
     p = given[0]
-    row = given[1]
+    row_number = given[1]
     column_number = given[2]
     if not group.has_person(p):
         return [NONE_SUCH]
-    if not group.has_row(row) or not group.has_column(column_number):
+    if not group.has_row(row_number) or not group.has_column(column_number):
         return [OUT_OF_RANGE]
-    if group.person_at(row, column_number) is not None:
+    if group.person_at(row_number, column_number) is not None:
         return [IMPOSSIBLE]
-    group.place(p, row, column_number)
+    group.place(p, row_number, column_number)
     return [int(group.is_seen(p))]
 
 
@@ -176,14 +177,133 @@ def column(group, given):
     if not group.has_column(given[0]):
         return [OUT_OF_RANGE]
     standing = group.column_people(given[0])
-    order = fewest_moved(standing, group.seen_orders(standing))
+    order = group.seen_order(standing)
     if order is None:
         return [NO_ORDER]
     return [count_moved(standing, order)] + order
 
 
+def mend(group, given):
+    # What column tells is done, so that both can't differ; form and seat go by shape and please likewise.
+    told = column(group, given)
+    if told[0] < 0:
+        return told
+    group.stand_so(group.column_people(given[0]), told[1:])
+    return [told[0]]
+
+
+def row(group, given):
+    if not group.has_row(given[0]):
+        return [OUT_OF_RANGE]
+    people = [group.person_at(given[0], column_number) for column_number in range(group.width)]
+    shown = [0 if p is None else p + 1 for p in people]
+    return [len(group.row_people(given[0]))] + shown
+
+
+def hill(group, given):
+    if not group.has_row(given[0]):
+        return [OUT_OF_RANGE]
+    return [int(group.is_hill(group.row_people(given[0])))]
+
+
+def shape(group, given):
+    if not group.has_row(given[0]):
+        return [OUT_OF_RANGE]
+    standing = group.row_people(given[0])
+    order = group.hill_order(standing)
+    return [count_moved(standing, order)] + order
+
+
+def form(group, given):
+    told = shape(group, given)
+    if told[0] < 0:
+        return told
+    group.stand_so(group.row_people(given[0]), told[1:])
+    return [told[0]]
+
+
+def please(group, given):
+    if not group.has_row(given[0]):
+        return [OUT_OF_RANGE]
+    standing = group.row_people(given[0])
+    order = group.near_order(standing)
+    return [group.near_beside(order, group.joints(standing))] + order
+
+
+def seat(group, given):
+    told = please(group, given)
+    if told[0] < 0:
+        return told
+    standing = group.row_people(given[0])
+    group.stand_so(standing, told[1:])
+    return [told[0], count_moved(standing, told[1:])]
+
+
+def beside(group, given):
+    p = given[0]
+    refusal = refuse_person(group, p)
+    if refusal < 0:
+        return [refusal]
+    people = group.people_around(p)
+    return [len(people)] + people
+
+
+def spare(group, given):
+    p = given[0]
+    refusal = refuse_person(group, p)
+    if refusal < 0:
+        return [refusal]
+    heads = [group.head(other) for other in group.people_in_front(p)]
+    if len(heads) == 0:
+        return [NOBODY_IN_FRONT]
+    higher = group.head(p) - (max(heads) + group.face)
+    return [max(higher, 0), max(-higher, 0)]
+
+
+def free(group, given):
+    places = group.free_places()
+    told = [len(places)]
+    for place in places:
+        told.extend(place)
+    return told
+
+
+def good(group, given):
+    p = given[0]
+    if not group.has_person(p):
+        return [NONE_SUCH]
+    place = group.good_place(p)
+    if place is None:
+        return [NO_GOOD_PLACE]
+    return list(place)
+
+
+def look(group, given):
+    p = given[0]
+    if not group.has_person(p):
+        return [NONE_SUCH]
+    if not group.is_placed(p):
+        return [group.heights[p], 0, 0, 0]
+    return [group.heights[p], 1] + list(group.spots[p])
+
+
+def sums(group, given):
+    placed_count = len(group.placed_people())
+    hidden_count = len(group.hidden_people())
+    near_told = len(group.pairs_told(NEAR))
+    apart_told = len(group.pairs_told(APART))
+    return [len(group.heights), placed_count, placed_count - hidden_count, hidden_count, near_told, apart_told]
+
+
+def state(group, given):
+    return [group.width, group.face, len(group.steps)] + group.steps
+
+
 # By the calls' numbers, from 0 on.
-CALLS = (begin, person, put, off, swap, wish, apart, forget, seen, hidden, hides, everybody, met, column)
+CALLS = (
+    begin, person, put, off, swap, wish, apart, forget, seen, hidden, hides, everybody, met, column, mend, row, hill,
+    shape, form, please, seat, beside, spare, free, good, look, sums, state,
+)
 
 
 def end_of_call(calls, start):
@@ -197,8 +317,6 @@ def end_of_call(calls, start):
 def answer_call(group, number, given):
     if number != BEGIN and not group.begun:
         return [NOT_BEGUN]
-    if number >= len(CALLS):
-        raise NotImplementedError(f"call {number} is not written yet")
     return CALLS[number](group, given)
 
 

@@ -58,11 +58,25 @@ def standing(face, steps, width, people):
     return calls
 
 
+def looks(people):
+    """Calls that show where each of so many people stands."""
+    return [("look", p) for p in range(people)]
+
+
+def held(calls, people):
+    """Where each of so many people stands behind these calls: (row, column), or None."""
+    found = ask(calls + looks(people))[len(calls):]
+    return [(told[2], told[3]) if told[1] else None for told in found]
+
+
 def probe(people, width):
     """Calls that between them show all that an object with so many people holds."""
-    calls = [("met",), ("hidden",), ("all",)]
+    calls = [("state",), ("sums",), ("free",), ("met",), ("hidden",), ("all",)] + looks(people)
     for column in range(width + 1):
         calls.append(("column", column))
+    for row in range(6):
+        calls.append(("row", row))
+        calls.append(("please", row))
     for p in range(people):
         calls.append(("hides", p))
     for p in range(people):

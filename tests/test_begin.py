@@ -31,8 +31,10 @@ class NotBegun(unittest.TestCase):
                 self.assertEqual(ask([("begin", 0, 10, [0]), (name,) + ARGUMENTS[name]]), [[-22], [-11]])
 
     def test_it_comes_ahead_of_every_other_refusal(self):
-        calls = [("person", 0), ("put", 99, 99, 99), ("off", 99), ("swap", 9, 9), ("wish", 9, 9), ("column", 99)]
-        self.assertEqual(ask(calls), [[-11]] * 6)
+        for name in NAMES[1:]:
+            for number in (0, 99, LARGEST):
+                with self.subTest(name, number=number):
+                    self.assertEqual(ask([(name,) + (number,) * len(ARGUMENTS[name])]), [[-11]])
 
     def test_what_was_refused_is_not_there_afterwards(self):
         calls = [("person", 100), ("begin", 1, 5, [0]), ("seen", 0), ("person", 100)]

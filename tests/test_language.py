@@ -30,6 +30,12 @@ WORDS = re.compile(
     r"\b(type|typing|typing_extensions|enum|Enum|IntEnum|StrEnum|Flag|IntFlag|Generic|Protocol|ABC|ABCMeta|"
     r"namedtuple|NamedTuple|TypedDict|TYPE_CHECKING|abstractmethod)\b|dataclass|overload|contextmanager"
 )
+KEYWORDS = {
+    "sorted": {"key", "reverse"}, "min": {"key", "default"}, "max": {"key", "default"}, "sum": {"start"},
+    "enumerate": {"start"}, "zip": {"strict"},
+}
+WALKED = set("zip enumerate reversed range items keys values".split())
+WALKERS = set("list tuple dict sorted sum any all enumerate zip min max".split())
 NOT_USED = set("register mro elements open input version_info with_traceback add_note sys os id super format".split())
 
 
@@ -120,6 +126,43 @@ class Form(unittest.TestCase):
                 inner |= {parameter.arg for parameter in node.args.args}
                 attributes = {part.attr for part in ast.walk(node) if isinstance(part, ast.Attribute)}
                 self.assertEqual((inner - attributes) & set(top), set(), node.name)
+
+    def test_is_stands_beside_plain_words_alone(self):
+        for path, tree in trees():
+            for node in [node for node in ast.walk(tree) if isinstance(node, ast.Compare)]:
+                if any(isinstance(sign, (ast.Is, ast.IsNot)) for sign in node.ops):
+                    self.assertEqual(len(node.comparators), 1)
+                    self.assertIn(getattr(node.comparators[0], "value", 0), (None, True, False))
+
+    def test_keywords_of_pythons_own(self):
+        for path, tree in trees():
+            for node in [node for node in ast.walk(tree) if isinstance(node, ast.Call) and node.keywords]:
+                name = getattr(node.func, "id", None)
+                self.assertLessEqual({keyword.arg for keyword in node.keywords}, KEYWORDS.get(name, set()))
+
+    def test_what_is_walked_at_once(self):
+        for path, tree in trees():
+            allowed = []
+            for node in ast.walk(tree):
+                if isinstance(node, (ast.For, ast.comprehension)):
+                    allowed.append(node.iter)
+                if isinstance(node, ast.Call) and getattr(node.func, "id", None) in WALKERS:
+                    allowed += node.args
+            for node in [node for node in ast.walk(tree) if isinstance(node, ast.Call)]:
+                name = getattr(node.func, "id", getattr(node.func, "attr", None))
+                if name in WALKED:
+                    self.assertTrue(any(node is other for other in allowed), node.lineno)
+
+    def test_no_set_is_made(self):
+        for path, tree in trees():
+            names = {node.id for node in ast.walk(tree) if isinstance(node, ast.Name)}
+            self.assertEqual(names & {"set", "frozenset", "chr", "print"}, set())
+
+    def test_lists_and_dicts_of_the_top_are_tuples(self):
+        """So that nothing can be kept there."""
+        for path, tree in trees():
+            for node in [node for node in tree.body if isinstance(node, ast.Assign)]:
+                self.assertIsInstance(node.value, (ast.Constant, ast.UnaryOp, ast.Tuple))
 
 
 if __name__ == "__main__":

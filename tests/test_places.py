@@ -100,40 +100,5 @@ class Swap(unittest.TestCase):
                 self.assertEqual(last(calls + [("swap",) + pair]), [answer])
 
 
-class Refused(unittest.TestCase):
-    PEOPLE = [(100, 0, 0), (95, 1, 0), (140, 2, 0), (120, 0, 1), (90, 2, 2), (80,), (85,)]
-    PAIRS = [("wish", 0, 3), ("wish", 5, 2), ("apart", 0, 1), ("apart", 4, 6)]
-    REFUSED = [
-        (("begin", 7, 10, [0]), -22), (("begin", 3, 61, [0]), -22), (("begin", 3, 10, [0] * 6), -22),
-        (("person", 49), -22), (("person", 251), -22),
-        (("put", 7, 1, 1), -2), (("put", 0, 3, 0), -22), (("put", 0, 0, 3), -22), (("put", 0, 0, 1), -16),
-        (("put", 5, 0, 0), -16), (("put", 0, 0, 0), -16),
-        (("off", 7), -2), (("off", 5), -6),
-        (("swap", 0, 7), -2), (("swap", 0, 0), -22), (("swap", 0, 5), -6), (("swap", 5, 0), -6),
-        (("wish", 7, 0), -2), (("wish", 1, 1), -22), (("wish", 3, 0), -17), (("wish", 1, 0), -16),
-        (("apart", 7, 0), -2), (("apart", 1, 1), -22), (("apart", 1, 0), -17), (("apart", 3, 0), -16),
-        (("forget", 0, 7), -2), (("forget", 2, 2), -22), (("forget", 1, 2), -6),
-        (("seen", 7), -2), (("seen", 5), -6), (("hides", 7), -2), (("hides", 5), -6), (("column", 3), -22),
-    ]
-
-    def held_after(self, calls):
-        before = standing(10, (0, 30, 10), 3, self.PEOPLE) + self.PAIRS + calls
-        return ask(before + probe(len(self.PEOPLE), 3))[len(before):]
-
-    def test_what_is_refused_changes_nothing(self):
-        held = self.held_after([])
-        for call, answer in self.REFUSED:
-            with self.subTest(call):
-                self.assertEqual(last(standing(10, (0, 30, 10), 3, self.PEOPLE) + self.PAIRS + [call]), [answer])
-                self.assertEqual(self.held_after([call]), held)
-
-    def test_what_only_asks_changes_nothing(self):
-        held = self.held_after([])
-        asked = [("seen", 1), ("hidden",), ("hides", 1), ("all",), ("met",), ("column", 0), ("column", 1)]
-        for call in asked:
-            with self.subTest(call):
-                self.assertEqual(self.held_after([call]), held)
-
-
 if __name__ == "__main__":
     unittest.main()
